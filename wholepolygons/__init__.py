@@ -1,0 +1,1 @@
+"""Polygons of whole points."""
