@@ -1,6 +1,7 @@
 """What several tests use: calls put into one list, answers taken apart, and slow ways to count."""
 
 from itertools import combinations
+from math import gcd
 
 from wholepolygons.polygons import answers
 
@@ -10,6 +11,17 @@ GREATEST = 18446744073709551615
 CORNERS = [2]
 SIZE = [3]
 INNER = [6]
+WIDTH = [7]
+FORM = [8]
+DUAL = [10]
+TWELVE = [11]
+
+# A whole map is (a, b, c, d, e, f): (x, y) goes to (a x + b y + e, c x + d y + f).
+MAPS = [
+    (1, 0, 0, 1, 3, -2), (0, -1, 1, 0, 0, 0), (-1, 0, 0, 1, 1, 1), (0, 1, 1, 0, -2, 0), (-1, 0, 0, -1, 0, 4),
+    (1, 1, 0, 1, 0, 0), (1, 0, -1, 1, 2, 2), (1, 2, 0, -1, -1, 3), (2, 1, 1, 1, 0, -1), (2, 1, 3, 2, 1, 0),
+    (3, 2, 1, 1, -1, -1), (1, -3, 0, 1, 0, 0), (2, -1, 3, -1, 0, 0), (2, 1, 1, 0, 0, 0), (1, 1, 2, 1, 3, 3),
+]
 
 
 def rows(plus, minus):
@@ -26,6 +38,10 @@ def point_rows(points, lift=0):
 
 def begin(points, lift=0):
     return [1] + point_rows(points, lift)
+
+
+def same(points, lift=0):
+    return [9] + point_rows(points, lift)
 
 
 def where(point, lift=0):
@@ -115,19 +131,108 @@ def slow_corners(points):
     return [point for point in apart if not slow_has([p for p in apart if p != point], point)]
 
 
+def slow_ring(points):
+    """The corners, counterclockwise from the least one on: each next one has all others to the left."""
+    corners = slow_corners(points)
+    ring = [min(corners)]
+    while len(ring) < len(corners):
+        ring += [c for c in corners if c != ring[-1] and all(turn(ring[-1], c, other) >= 0 for other in corners)]
+    return ring
+
+
+def moved(points, whole_map):
+    a, b, c, d, e, f = whole_map
+    return [(a * x + b * y + e, c * x + d * y + f) for x, y in points]
+
+
+def map_between(three, others):
+    """The map that takes these three points to the others in their order, or None if it isn't a whole one."""
+    (px, py), (qx, qy), (rx, ry) = three
+    area = turn(*three)
+    numbers = []
+    for k in (0, 1):
+        q, r = others[1][k] - others[0][k], others[2][k] - others[0][k]
+        numbers += [q * (ry - py) - r * (qy - py), r * (qx - px) - q * (rx - px)]
+    if any(number % area for number in numbers):
+        return None
+    a, b, c, d = [number // area for number in numbers]
+    if a * d - b * c not in (1, -1):
+        return None
+    return (a, b, c, d, others[0][0] - a * px - b * py, others[0][1] - c * px - d * py)
+
+
+def slow_alike(points, others):
+    """Some whole map takes the corners of the one to those of the other, in whatever order these come to be."""
+    ring, other_ring = slow_ring(points), slow_ring(others)
+    if len(ring) != len(other_ring):
+        return False
+    for way in (other_ring, other_ring[::-1]):
+        for start in range(len(way)):
+            aim = way[start:] + way[:start]
+            found = map_between(ring[:3], aim[:3])
+            if found and moved(ring, found) == aim:
+                return True
+    return False
+
+
+def slow_rows(points):
+    """From each corner on, each place the third corner may be at tried out."""
+    rows_found = []
+    for ring in (slow_ring(points), slow_ring([(-x, y) for x, y in points])):
+        for start in range(len(ring)):
+            turned = ring[start:] + ring[:start]
+            length = gcd(turned[1][0] - turned[0][0], turned[1][1] - turned[0][1])
+            height = turn(*turned[:3]) // length
+            maps = [map_between(turned[:3], [(0, 0), (length, 0), (length + more, height)]) for more in range(height)]
+            (only,) = [found for found in maps if found]
+            rows_found.append(moved(turned, only))
+    return rows_found
+
+
+def slow_form(points):
+    return min(slow_rows(points))
+
+
+def slow_dual(points):
+    """The dual's corners, each searched for one by one, seen from the one whole point within."""
+    ((mx, my),) = [point for point in box(points) if slow_within(points, point)]
+    ring = [(x - mx, y - my) for x, y in slow_ring(points)]
+    found = []
+    for (ax, ay), (bx, by) in zip(ring, ring[1:] + ring[:1]):
+        tried = [(u, v) for u in range(-45, 46) for v in range(-45, 46)]
+        ((u, v),) = [(u, v) for u, v in tried if u * ax + v * ay == 1 and u * bx + v * by == 1]
+        found.append((u, v))
+    return found
+
+
+def across(points, direction):
+    values = [direction[0] * x + direction[1] * y for x, y in points]
+    return max(values) - min(values)
+
+
+def directions_to(greatest):
+    """All directions with numbers up to the greatest, by their first number, then by their second."""
+    return [(0, 1)] + [
+        (p, q) for p in range(1, greatest + 1) for q in range(-greatest, greatest + 1) if gcd(p, q) == 1]
+
+
 def in_one_line(points):
     return all(turn(*three) == 0 for three in combinations(points, 3))
 
 
+def mixed_numbers(state):
+    """Numbers without end, well mixed, always the same ones for one state."""
+    while True:
+        state = (state * 1103515245 + 12345) % 2147483648
+        yield state >> 12
+
+
 def sample_polygons(many, greatest):
     """Lists of 3 to 12 points, always the same ones, numbers from -greatest to greatest."""
-    state = 12345
+    mixed = mixed_numbers(12345)
     samples = []
     while len(samples) < many:
-        numbers = []
-        for step in range(24):
-            state = (state * 1103515245 + 12345) % 2147483648
-            numbers.append((state >> 12) % (2 * greatest + 1) - greatest)
+        numbers = [next(mixed) % (2 * greatest + 1) - greatest for step in range(24)]
         points = list(zip(numbers[::2], numbers[1::2]))[:3 + len(samples) % 10]
         if not in_one_line(points):
             samples.append(points)

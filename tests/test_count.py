@@ -1,7 +1,8 @@
 import unittest
 
 from tests.helper import (
-    CORNERS, FIRST, GREATEST, SIZE, ask, ask_last, begin, box, count, sample_polygons, slow_has, told)
+    CORNERS, DUAL, FIRST, FORM, GREATEST, INNER, SIZE, TWELVE, WIDTH, ask, ask_last, begin, box, count, moved,
+    points_told, same, sample_polygons, slow_has, slow_where, told, where)
 
 
 def slow_count(points, k):
@@ -52,6 +53,39 @@ class PromiseOne(unittest.TestCase):
         for points in sample_polygons(40, 20):
             size = ask_last(begin(points), SIZE)
             self.assertEqual(ask_last(begin(points), count(1)), [size[2] + size[3]], points)
+
+    def test_thin_and_great_ones_against_a_count_one_by_one(self):
+        thin = [[(-20, -20), (20, 19), (19, 18)], [(-20, 20), (20, -17), (3, 0)]]
+        for points in thin + [[(-20, -20), (20, -20), (3, 20)]]:
+            self.assertEqual(ask_last(begin(points), count(1)), [slow_count(points, 1)], points)
+
+    def test_whatever_else_is_asked_between(self):
+        between = [CORNERS, SIZE, INNER, where((0, 0)), WIDTH, FORM, same([(0, 0), (5, 1), (2, 4)]), DUAL, TWELVE]
+        for points in sample_polygons(10, 3):
+            mixed = [call for other in between for call in (other, count(2))]
+            answers = ask(begin(points), *mixed)
+            self.assertEqual(answers[2::2], [[slow_count(points, 2)]] * len(between), points)
+
+    def test_the_form_and_the_dual_too(self):
+        for points in sample_polygons(40, 1):
+            form, dual = ask(begin(points), FORM, DUAL)[1:]
+            for other in (form, dual):
+                if other != [-4]:
+                    row = points_told(other)
+                    self.assertEqual(ask_last(begin(row), count(3)), [slow_count(row, 3)], row)
+
+    def test_alike_ones_have_as_many(self):
+        for points in sample_polygons(20, 3):
+            other = moved(points, (2, 1, 3, 2, 1, 0))
+            for k in (0, 1, 6, 1000):
+                self.assertEqual(ask_last(begin(other), count(k)), ask_last(begin(points), count(k)), (points, k))
+
+    def test_each_point_counted_stands_within_or_at_the_edge(self):
+        for points in sample_polygons(10, 4):
+            size, inner = ask(begin(points), SIZE, INNER)[1:]
+            standings = [slow_where(points, point) for point in box(points)]
+            self.assertEqual((standings.count(1), standings.count(2)), (size[2], inner[0]), points)
+            self.assertEqual(ask_last(begin(points), count(1)), [len(standings) - standings.count(0)], points)
 
 
 if __name__ == "__main__":

@@ -24,6 +24,11 @@ WORDS = re.compile(
     r"|NamedTuple|TypedDict|TYPE_CHECKING|abstractmethod)\b|dataclass|overload|contextmanager")
 
 
+METHODS = """append clear copy count endswith extend find get index insert isalnum isalpha isdigit islower isspace
+    isupper items join keys ljust lower lstrip partition pop remove replace reverse rfind rjust rpartition rsplit rstrip
+    setdefault split splitlines startswith strip update upper values zfill bit_length""".split()
+
+
 class Language(unittest.TestCase):
     def nodes(self, *kinds):
         for file in FILES:
@@ -59,6 +64,17 @@ class Language(unittest.TestCase):
             self.assertEqual(len(node.targets), 1, place)
         for place, node in self.nodes(ast.For, ast.While):
             self.assertEqual(node.orelse, [], place)
+
+    def test_what_is_walked_at_once_is_not_kept(self):
+        for place, node in self.nodes(ast.Assign, ast.Return):
+            if isinstance(node.value, ast.Call) and isinstance(node.value.func, ast.Name):
+                self.assertNotIn(node.value.func.id, ("range", "zip", "enumerate", "reversed", "set"), place)
+
+    def test_methods(self):
+        own = [node.name for place, node in self.nodes(ast.FunctionDef)]
+        for place, node in self.nodes(ast.Call):
+            if isinstance(node.func, ast.Attribute):
+                self.assertIn(node.func.attr, METHODS + own, place)
 
     def test_names_of_pythons_own(self):
         for place, node in self.nodes(ast.Name):

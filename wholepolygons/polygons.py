@@ -10,10 +10,16 @@ SIZE = 3
 COUNT = 4
 WHERE = 5
 INNER = 6
+WIDTH = 7
+FORM = 8
+SAME = 9
+DUAL = 10
+TWELVE = 11
 
 REFUSED_LISTS = -3
 REFUSED_BOUNDS = -1
 REFUSED_LINE = -4
+REFUSED_WITHIN = -4
 
 FEWEST_POINTS = 3
 MOST_POINTS = 12
@@ -36,6 +42,10 @@ class BeyondBounds(Exception):
 
 
 class InOneLine(Exception):
+    pass
+
+
+class NotJustOneWithin(Exception):
     pass
 
 
@@ -68,6 +78,14 @@ class Reader:
         return row
 
 
+def cross(a, b):
+    return a[0] * b[1] - a[1] * b[0]
+
+
+def seen_from(origin, points):
+    return [(x - origin[0], y - origin[1]) for x, y in points]
+
+
 def turn(a, b, c):
     # Twice the area of a, b, c: above 0 just if c lies to the left of the way from a to b.
     return (b[0] - a[0]) * (c[1] - a[1]) - (b[1] - a[1]) * (c[0] - a[0])
@@ -95,18 +113,26 @@ def edges_of(corners):
     return list(zip(corners, corners[1:] + corners[:1]))
 
 
-def greatest_divisor(a, b):
-    greater = abs(a)
-    lesser = abs(b)
-    while lesser != 0:
-        rest = greater % lesser
+def divisor_and_factors(a, b):
+    # Each triple is (d, m, n) with m * a + n * b being d, from the two plain ones on down to the greatest divisor.
+    greater = (a, 1, 0)
+    lesser = (b, 0, 1)
+    while lesser[0] != 0:
+        times = greater[0] // lesser[0]
+        rest = tuple([g - times * s for g, s in zip(greater, lesser)])
         greater = lesser
         lesser = rest
+    if greater[0] < 0:
+        return tuple([-number for number in greater])
     return greater
 
 
+def greatest_divisor(a, b):
+    return divisor_and_factors(a, b)[0]
+
+
 def twice_area(corners):
-    return sum([a[0] * b[1] - a[1] * b[0] for a, b in edges_of(corners)])
+    return sum([cross(a, b) for a, b in edges_of(corners)])
 
 
 def count_at_edge(corners):
@@ -143,6 +169,87 @@ def points_within(corners):
     return found
 
 
+def width_across(corners, direction):
+    values = [direction[0] * x + direction[1] * y for x, y in corners]
+    return max(values) - min(values)
+
+
+def pairs_reaching(reach):
+    # Of the pairs whose greater number is so far from 0, one of each two that are opposite: these are one direction.
+    return [(reach, t) for t in range(1 - reach, reach + 1)] + [(s, reach) for s in range(-reach, reach)]
+
+
+def direction_rising(b, s, c, t):
+    # That along which b is s and c is t beyond the origin, or else its opposite; None if it isn't whole.
+    area = cross(b, c)
+    p = s * c[1] - t * b[1]
+    q = t * b[0] - s * c[0]
+    if p % area != 0 or q % area != 0:
+        return None
+    if p < 0 or (p == 0 and q < 0):
+        return (-p // area, -q // area)
+    return (p // area, q // area)
+
+
+def narrowest_directions(corners):
+    # Across a direction the polygon is at least what lies between two of its corners, so none beyond the reach is as
+    # narrow. One with a common divisor comes behind the narrower one without, so it is never taken.
+    seen = seen_from(corners[0], corners)
+    least = width_across(corners, (1, 0))
+    found = []
+    reach = 1
+    while reach <= least:
+        for s, t in pairs_reaching(reach):
+            direction = direction_rising(seen[1], s, seen[2], t)
+            if direction is None:
+                continue
+            width = width_across(corners, direction)
+            if width < least:
+                least = width
+                found = []
+            if width == least:
+                found.append(direction)
+        reach += 1
+    return sorted(found)
+
+
+def mirrored(corners):
+    # Mirroring turns the way round, so they are told from behind.
+    return [(-x, y) for x, y in reversed(corners)]
+
+
+def row_from(corners, start):
+    seen = seen_from(corners[start], corners[start:] + corners[:start])
+    ahead = seen[1]
+    factors = divisor_and_factors(ahead[0], ahead[1])
+    divisor = factors[0]
+    level = [(factors[1] * x + factors[2] * y, cross(ahead, (x, y)) // divisor) for x, y in seen]
+    third = level[2]
+    lean = (third[0] - divisor) // third[1]
+    return [(x - lean * y, y) for x, y in level]
+
+
+def rows_from_each(corners):
+    return [row_from(corners, start) for start in range(len(corners))]
+
+
+def one_form(corners):
+    return min(rows_from_each(corners) + rows_from_each(mirrored(corners)))
+
+
+def dual_corner(a, b):
+    # Both are whole: along the edge no line of whole points lies between it and the one within.
+    area = cross(a, b)
+    return ((b[1] - a[1]) // area, (a[0] - b[0]) // area)
+
+
+def dual_corners(corners):
+    if count_within(corners) != 1:
+        raise NotJustOneWithin()
+    middle = points_within(corners)[0]
+    return [dual_corner(a, b) for a, b in edges_of(seen_from(middle, corners))]
+
+
 def read_points(plus, minus):
     if len(plus) != len(minus) or len(plus) % 2 != 0:
         raise NotPoints()
@@ -169,11 +276,15 @@ def read_corners(plus, minus):
     return corners
 
 
-def told_with_count(points):
-    told = [len(points)]
+def numbers_of(points):
+    numbers = []
     for point in points:
-        told.extend(point)
-    return told
+        numbers.extend(point)
+    return numbers
+
+
+def told_with_count(points):
+    return [len(points)] + numbers_of(points)
 
 
 def answer_begin(polygon, reader):
@@ -200,6 +311,21 @@ def answer_where(corners, reader):
     return [standing_of(corners, read_one_point(plus, minus))]
 
 
+def answer_width(corners):
+    directions = narrowest_directions(corners)
+    return [len(directions), width_across(corners, directions[0])] + numbers_of(directions)
+
+
+def answer_same(corners, reader):
+    plus = reader.take_row()
+    minus = reader.take_row()
+    return [1 if one_form(read_corners(plus, minus)) == one_form(corners) else 0]
+
+
+def answer_twelve(corners):
+    return [0, count_at_edge(corners), count_at_edge(dual_corners(corners))]
+
+
 def answer_call(polygon, reader):
     call = reader.take_number()
     if call == BEGIN:
@@ -214,6 +340,16 @@ def answer_call(polygon, reader):
         return answer_where(polygon.corners, reader)
     if call == INNER:
         return told_with_count(points_within(polygon.corners))
+    if call == WIDTH:
+        return answer_width(polygon.corners)
+    if call == FORM:
+        return told_with_count(one_form(polygon.corners))
+    if call == SAME:
+        return answer_same(polygon.corners, reader)
+    if call == DUAL:
+        return told_with_count(one_form(dual_corners(polygon.corners)))
+    if call == TWELVE:
+        return answer_twelve(polygon.corners)
     raise UnknownCall(f"no such call: {call}")
 
 
@@ -227,6 +363,8 @@ def answer_or_refusal(polygon, reader):
         return [REFUSED_BOUNDS]
     except InOneLine:
         return [REFUSED_LINE]
+    except NotJustOneWithin:
+        return [REFUSED_WITHIN]
 
 
 def answers(calls):
